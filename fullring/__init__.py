@@ -1,0 +1,1 @@
+"""Rings of signs in which each word of a book stands just once."""
