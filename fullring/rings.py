@@ -11,10 +11,15 @@ def check_ring_size(size):
         raise BadSize("a size is a whole number from 1 to 8")
 
 
+def check_ring_over(signs, ring):
+    """Refuse what is no ring over so many signs."""
+    if not is_row(ring, MOST_WORDS, signs):
+        raise BadRing("a ring is a list of 1 to 256 of the signs")
+
+
 def check_ring(ring):
     """Refuse what is no ring."""
-    if not is_row(ring, MOST_WORDS, MOST_SIGNS):
-        raise BadRing("a ring is a list of 1 to 256 whole numbers from 0 to 8")
+    check_ring_over(MOST_SIGNS, ring)
 
 
 def check_place(ring, place):

@@ -5,6 +5,7 @@ import copy
 import decimal
 import fractions
 import inspect
+import itertools
 import operator
 import unittest
 
@@ -90,6 +91,58 @@ def bad_rings():
     return rows + [knotted(), [[0, 1]]] + no_lists()
 
 
+def books_of(words):
+    """All books that some of the words make."""
+    return [
+        list(some)
+        for many in range(1, len(words) + 1)
+        for some in itertools.combinations(words, many)
+    ]
+
+
+def orders_of(book):
+    """A book in several orders."""
+    return [book, book[::-1], book[len(book) // 2:] + book[:len(book) // 2], book[1::2] + book[::2]]
+
+
+def words_round(ring, size):
+    """The words on a ring, read off it once it is set often enough behind itself."""
+    row = ring * (size + 1)
+    return [row[place:place + size] for place in range(len(ring))]
+
+
+def rings_by_trying(signs, size, most):
+    """For each book of at most so many words that has rings, all of these, rising."""
+    found = {}
+    for many in range(1, most + 1):
+        for ring in itertools.product(range(signs), repeat=many):
+            words = {tuple(word) for word in words_round(list(ring), size)}
+            if len(words) == many:
+                found.setdefault(tuple(sorted(words)), []).append(list(ring))
+    return found
+
+
+def bad_words(signs, size):
+    """Things that are no words of the size over the signs."""
+    rows = bad_pieces(signs) + [[0] * (size - 1), [0] * (size + 1), (0,) * size, "0" * size]
+    for bad in no_wholes() + far_numbers() + [signs, 9, 10]:
+        for place in sorted({0, size // 2, size - 1}):
+            rows.append([0] * place + [bad] + [0] * (size - 1 - place))
+    return rows
+
+
+def bad_books(signs, size, book):
+    """Things that are no books, among them a book of several words with a fault in it."""
+    half = len(book) // 2
+    rows = no_lists() + [[], [0], [0] * size, knotted(), [book], [[]]]
+    for bad in bad_words(signs, size):
+        rows += [[bad], [bad] + book, book[:half] + [bad] + book[half:], book + [bad]]
+    for word in (book[0], book[half], book[-1]):
+        rows += [[list(word)] + book, book[:half] + [list(word)] + book[half:], book + [list(word)]]
+        rows += [[word, word], book + [word]]
+    return rows + [book + book, book * 300]
+
+
 def shape(thing, seen=()):
     """What a thing is made of, so that a change of it shows."""
     kind = type(thing)
@@ -107,11 +160,20 @@ def shape(thing, seen=()):
     return id(thing)
 
 
+def lists_in(thing):
+    """All lists in a told thing, itself too."""
+    if type(thing) not in (list, tuple):
+        return []
+    inner = [found for item in thing for found in lists_in(item)]
+    return inner + [thing] if type(thing) is list else inner
+
+
 def spoil(thing):
-    """Change a list, and the lists in it, throughout."""
-    if type(thing) is list:
+    """Change a list, and the lists in it or in a tuple, throughout."""
+    if type(thing) in (list, tuple):
         for item in thing:
             spoil(item)
+    if type(thing) is list:
         thing.reverse()
         thing.append("spoiled")
         thing.insert(0, "spoiled")
@@ -146,9 +208,8 @@ class RingCase(unittest.TestCase):
 
     def each_its_own(self, told):
         """Spoil a told thing, and check that no list in it is in it twice."""
-        if type(told) is list:
-            inner = [id(item) for item in told if type(item) is list]
-            self.assertEqual(len(inner), len(set(inner)))
+        inner = [id(item) for item in lists_in(told)]
+        self.assertEqual(len(inner), len(set(inner)))
         spoil(told)
 
     def refused(self, name, call, *args):
