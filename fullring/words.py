@@ -28,11 +28,16 @@ def many_words(signs, size):
     return many
 
 
-def check_size(signs, size):
-    """Refuse signs and a size that do not go together, or are none."""
+def check_signs(signs):
+    """Refuse signs that are none."""
     # Messages never show what was handed in: not every thing can be shown.
     if not is_whole(signs, 1, MOST_SIGNS):
         raise BadSize("there are 1 to 9 signs")
+
+
+def check_size(signs, size):
+    """Refuse signs and a size that do not go together, or are none."""
+    check_signs(signs)
     if not is_whole(size, 1, MOST_SIZE):
         raise BadSize("a size is a whole number from 1 to 8")
     if many_words(signs, size) > MOST_WORDS:
